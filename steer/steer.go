@@ -3,6 +3,7 @@ package steer
 
 import (
 	"steer/api"
+	"steer/machine"
 	"steer/policy"
 	"steer/prefix"
 )
@@ -32,11 +33,17 @@ func Size(text string) (int, api.Errno) {
 }
 
 // Compile turns a policy into code (P8).
-func Compile(text string) ([]byte, api.Errno) { return nil, api.OK }
+func Compile(text string) ([]byte, api.Errno) {
+	p, errno, _ := policy.Read(text)
+	if errno != api.OK {
+		return nil, errno
+	}
+	return machine.Compile(p)
+}
 
 // Run runs code in a world, so many steps at most (P9).
 func Run(code []byte, w api.World, fuel int) (api.Answer, api.Errno) {
-	return api.Answer{}, api.OK
+	return machine.Run(code, w, fuel)
 }
 
 // Server is a policy with the world around it.
