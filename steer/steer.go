@@ -45,26 +45,3 @@ func Compile(text string) ([]byte, api.Errno) {
 func Run(code []byte, w api.World, fuel int) (api.Answer, api.Errno) {
 	return machine.Run(code, w, fuel)
 }
-
-// Server is a policy with the world around it.
-type Server struct{}
-
-// Start gives a server without a policy (P10).
-func Start() *Server { return nil }
-
-// Load loads another policy (P11).
-func (s *Server) Load(text string) (api.Errno, int) { return api.OK, 0 }
-
-// Mark tells that a server is up, or down (P12).
-func (s *Server) Mark(server int, up bool) api.Errno { return api.OK }
-
-// Alias tells what an alias stands for (P12).
-func (s *Server) Alias(k int, servers []int) api.Errno { return api.OK }
-
-// Locate tells the places (P12).
-func (s *Server) Locate(l []api.Place) api.Errno { return api.OK }
-
-// Query asks the policy (P13).
-func (s *Server) Query(addr int, bits int, draw int) (api.Answer, api.Errno) {
-	return api.Answer{}, api.OK
-}
